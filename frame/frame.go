@@ -1,0 +1,48 @@
+// Package frame: the bytes in which a change goes over a link.
+package frame
+
+import "coedit/text"
+
+// Size is how many bytes a frame has.
+const Size = 17
+
+const mark = 0x4a
+
+// Bytes is a frame as it stands in a link: an array, so that every copy has bytes of its own.
+type Bytes [Size]byte
+
+// Frame is what a frame tells: a change, how many frames its sender had sent and taken ahead of it, and a cursor.
+type Frame struct {
+	Change              text.Change
+	Mine, Other, Cursor int
+}
+
+// Write gives a frame's bytes.
+func Write(f Frame) Bytes {
+	b := Bytes{0: mark, 1: byte(f.Change.Kind), 2: byte(f.Change.Client)}
+	putNumber(b[3:5], f.Change.E.Number)
+	putNumber(b[5:7], f.Mine)
+	putNumber(b[7:9], f.Other)
+	putNumber(b[9:11], f.Change.At)
+	putNumber(b[11:14], int(f.Change.E.R))
+	putNumber(b[14:16], f.Cursor)
+	b[Size-1] = sum(b)
+	return b
+}
+
+// putNumber fills the place with a number, its high byte first.
+func putNumber(place []byte, n int) {
+	for i := len(place) - 1; i >= 0; i-- {
+		place[i] = byte(n)
+		n >>= 8
+	}
+}
+
+// sum is the exclusive or of all bytes ahead of the last.
+func sum(b Bytes) byte {
+	var x byte
+	for _, y := range b[:Size-1] {
+		x ^= y
+	}
+	return x
+}

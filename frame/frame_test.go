@@ -1,0 +1,31 @@
+package frame_test
+
+import (
+	"encoding/hex"
+	"strings"
+	"testing"
+
+	"coedit/frame"
+	"coedit/text"
+)
+
+func TestWrite(t *testing.T) {
+	for _, c := range []struct {
+		f    frame.Frame
+		want string
+	}{
+		// The document's examples.
+		{frame.Frame{Change: text.Change{Kind: 1, E: text.Elem{R: 'a', Number: 1}}, Cursor: 1}, "4a01 00 0001 0000 0000 0000 000061 0001 2a"},
+		{frame.Frame{Change: text.Change{Kind: 1, E: text.Elem{R: 'b', Client: 1, Number: 1}, Client: 1}, Cursor: 1}, "4a01 01 0001 0000 0000 0000 000062 0001 28"},
+		{frame.Frame{Change: text.Change{Kind: 1, E: text.Elem{R: 'a', Number: 1}}, Other: 1, Cursor: 2}, "4a01 00 0001 0000 0001 0000 000061 0002 28"},
+		{frame.Frame{Change: text.Change{Kind: 2}, Mine: 1, Other: 1, Cursor: 1}, "4a02 00 0000 0001 0001 0000 000000 0001 49"},
+		// Every number with all its bytes, the high one first.
+		{frame.Frame{Change: text.Change{Kind: 1, At: 0x0708, E: text.Elem{R: 0x10fffe, Client: 5, Number: 0x0102}, Client: 5}, Mine: 0x0304, Other: 0x0506, Cursor: 0x090a}, "4a01 05 0102 0304 0506 0708 10fffe 090a 54"},
+		{frame.Frame{Change: text.Change{Kind: 3, Client: 4}, Mine: 1999, Cursor: 256}, "4a03 04 0000 07cf 0000 0000 000000 0100 84"},
+	} {
+		b := frame.Write(c.f)
+		if got, want := hex.EncodeToString(b[:]), strings.ReplaceAll(c.want, " ", ""); got != want {
+			t.Errorf("%+v: %s, want %s", c.f, got, want)
+		}
+	}
+}

@@ -1,0 +1,91 @@
+// Package text: elements, rows of them, and the changes that make one row of another.
+package text
+
+import "slices"
+
+// The kinds of changes, as they are told and as they stand in frames.
+const (
+	KindInsert = iota + 1
+	KindDelete
+	KindNothing
+)
+
+// Elem is a rune with its id: who typed it, as which of the typist's inserts.
+type Elem struct {
+	R              rune
+	Client, Number int
+}
+
+// Change is a change as it is told: Kind 1 inserts E at At, 2 deletes what stands at At, 3 does nothing.
+type Change struct {
+	Kind, At int
+	E        Elem
+	Client   int
+}
+
+// Edit is a change as it is worked with: an Insert, a Delete or a Nothing.
+type Edit interface {
+	// Apply makes another row and leaves the given one as it is: whoever holds the old row may go on reading it.
+	// An index that is none of the row makes no change: it is for the caller to refuse it.
+	Apply(row []Elem) []Elem
+	Told() Change
+}
+
+// Insert puts E at the index At; it is of the client that typed E.
+type Insert struct {
+	At int
+	E  Elem
+}
+
+// Delete takes away what stands at the index At; it is of the client By.
+type Delete struct {
+	At, By int
+}
+
+// Nothing leaves a text as it is; it is of the client By.
+type Nothing struct {
+	By int
+}
+
+func (x Insert) Apply(row []Elem) []Elem {
+	if x.At < 0 || x.At > len(row) {
+		return row
+	}
+	return slices.Concat(row[:x.At], []Elem{x.E}, row[x.At:])
+}
+
+func (x Delete) Apply(row []Elem) []Elem {
+	if x.At < 0 || x.At >= len(row) {
+		return row
+	}
+	return slices.Concat(row[:x.At], row[x.At+1:])
+}
+
+func (x Nothing) Apply(row []Elem) []Elem { return row }
+
+func (x Insert) Told() Change {
+	return Change{Kind: KindInsert, At: x.At, E: x.E, Client: x.E.Client}
+}
+
+func (x Delete) Told() Change {
+	return Change{Kind: KindDelete, At: x.At, Client: x.By}
+}
+
+func (x Nothing) Told() Change {
+	return Change{Kind: KindNothing, Client: x.By}
+}
+
+// TurnIndex turns an index past a change of the text that it is an index of.
+func TurnIndex(k int, past Edit) int {
+	switch b := past.(type) {
+	case Insert:
+		if b.At <= k {
+			return k + 1
+		}
+	case Delete:
+		if b.At < k {
+			return k - 1
+		}
+	}
+	return k
+}
