@@ -63,3 +63,14 @@ func (w *client) write(d draft) bool {
 	}
 	return true
 }
+
+// receive takes a frame from the link down. With an error nothing has changed.
+func (w *client) receive() error {
+	x, _, err := w.take()
+	if err != nil {
+		return err
+	}
+	w.elems = x.Apply(w.elems)
+	w.cursor = text.TurnIndex(w.cursor, x)
+	return nil
+}

@@ -45,6 +45,7 @@ func New(clients int, room int) (*Session, error) {
 		w := &client{number: c, side: newSide(room)}
 		w.start(&s.running)
 		s.clients = append(s.clients, w)
+		s.server.ends = append(s.server.ends, w.opposite())
 		s.server.cursors[c] = 0
 	}
 	return s, nil
@@ -63,11 +64,16 @@ func (s *Session) Move(c int, at int) error {
 	return s.write("Move", c, func(w *client) (draft, error) { return w.draftMove(at) })
 }
 
-// Deliver: P4 and P5 are not built yet: no frame is taken.
+// Deliver: P4 (up) and P5.
 func (s *Session) Deliver(c int, up bool) error {
 	s = s.enter()
 	defer s.mu.Unlock()
-	_, err := s.find(c)
+	w, err := s.find(c)
+	if err == nil && up {
+		s.server.do(func() { err = s.server.receive(c) })
+	} else if err == nil {
+		w.do(func() { err = w.receive() })
+	}
 	return named("Deliver", c, err)
 }
 

@@ -55,7 +55,7 @@ func look(s *coedit.Session) seen {
 	var v seen
 	for c := -2; c <= 6; c++ {
 		v.texts += s.Text(c) + "\n"
-		v.heads += string(s.Head(c, true)) + "\n" + string(s.Head(c, false)) + "\n"
+		v.heads += hex.EncodeToString(s.Head(c, true)) + "\n" + hex.EncodeToString(s.Head(c, false)) + "\n"
 		l, _ := plain.Elems(s, c, 0)
 		v.elems = append(v.elems, l...)
 		up, down := s.Waiting(c)

@@ -21,7 +21,7 @@ func script(s *coedit.Session) []int {
 		return int(seed>>8) % n
 	}
 	for range 300 {
-		l = append(l, plain.Do(s, 1+next(3), next(5)-1, next(12)-1, next(300)-5))
+		l = append(l, plain.Do(s, 1+next(5), next(5)-1, next(12)-1, next(300)-5))
 	}
 	return l
 }
@@ -98,6 +98,7 @@ func TestNoSession(t *testing.T) {
 				wrong(t, s.Delete(c, 0), coedit.ErrClient, "Delete", c)
 				wrong(t, s.Move(c, 0), coedit.ErrClient, "Move", c)
 				wrong(t, s.Deliver(c, true), coedit.ErrClient, "Deliver", c)
+				wrong(t, s.Deliver(c, false), coedit.ErrClient, "Deliver", c)
 				wrong(t, s.Check(c, false, nil), coedit.ErrClient, "Check", c)
 				up, down := s.Waiting(c)
 				if s.Text(c) != "" || s.Cursor(c) != -1 || s.Head(c, true) != nil || s.Head(c, false) != nil || up != 0 || down != 0 {
@@ -129,18 +130,16 @@ func TestErrors(t *testing.T) {
 	}
 }
 
-// What is to come of Deliver and Check, their first errors stand already.
-func TestDeliverAndCheckNameTheirFaults(t *testing.T) {
+// What is to come of Check, its first errors stand already.
+func TestCheckNamesItsFaults(t *testing.T) {
 	s := begin(t, 2, 1)
 	for _, up := range []bool{true, false} {
 		for _, c := range []int{-1, 2, 1 << 40} {
-			wrong(t, s.Deliver(c, up), coedit.ErrClient, "Deliver", c)
 			wrong(t, s.Check(c, up, nil), coedit.ErrClient, "Check", c)
 		}
 	}
 	s.Stop()
 	for _, c := range []int{-1, 0} {
-		wrong(t, s.Deliver(c, true), coedit.ErrStopped, "Deliver", c)
 		wrong(t, s.Check(c, true, nil), coedit.ErrStopped, "Check", c)
 	}
 }

@@ -30,6 +30,30 @@ func Write(f Frame) Bytes {
 	return b
 }
 
+// Read tells what the bytes of a frame tell, as Write has written them.
+func Read(b Bytes) Frame {
+	f := Frame{Mine: number(b[5:7]), Other: number(b[7:9]), Cursor: number(b[14:16])}
+	f.Change.Kind = int(b[1])
+	f.Change.Client = int(b[2])
+	switch f.Change.Kind {
+	case text.KindInsert:
+		f.Change.E = text.Elem{R: rune(number(b[11:14])), Client: f.Change.Client, Number: number(b[3:5])}
+		fallthrough
+	case text.KindDelete:
+		f.Change.At = number(b[9:11])
+	}
+	return f
+}
+
+// number reads a number, its high byte first.
+func number(place []byte) int {
+	n := 0
+	for _, x := range place {
+		n = n<<8 | int(x)
+	}
+	return n
+}
+
 // putNumber fills the place with a number, its high byte first.
 func putNumber(place []byte, n int) {
 	for i := len(place) - 1; i >= 0; i-- {

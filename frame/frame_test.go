@@ -9,11 +9,14 @@ import (
 	"coedit/text"
 )
 
-func TestWrite(t *testing.T) {
-	for _, c := range []struct {
-		f    frame.Frame
-		want string
-	}{
+type sample struct {
+	f     frame.Frame
+	bytes string
+}
+
+// samples are frames and their bytes.
+func samples() []sample {
+	return []sample{
 		// The document's examples.
 		{frame.Frame{Change: text.Change{Kind: 1, E: text.Elem{R: 'a', Number: 1}}, Cursor: 1}, "4a01 00 0001 0000 0000 0000 000061 0001 2a"},
 		{frame.Frame{Change: text.Change{Kind: 1, E: text.Elem{R: 'b', Client: 1, Number: 1}, Client: 1}, Cursor: 1}, "4a01 01 0001 0000 0000 0000 000062 0001 28"},
@@ -22,10 +25,27 @@ func TestWrite(t *testing.T) {
 		// Every number with all its bytes, the high one first.
 		{frame.Frame{Change: text.Change{Kind: 1, At: 0x0708, E: text.Elem{R: 0x10fffe, Client: 5, Number: 0x0102}, Client: 5}, Mine: 0x0304, Other: 0x0506, Cursor: 0x090a}, "4a01 05 0102 0304 0506 0708 10fffe 090a 54"},
 		{frame.Frame{Change: text.Change{Kind: 3, Client: 4}, Mine: 1999, Cursor: 256}, "4a03 04 0000 07cf 0000 0000 000000 0100 84"},
-	} {
+		{frame.Frame{Change: text.Change{Kind: 2, At: 0xfffe, Client: 3}, Mine: 0x0102, Other: 0xff00, Cursor: 0xffff}, "4a02 03 0000 0102 ff00 fffe 000000 ffff b6"},
+	}
+}
+
+func TestWrite(t *testing.T) {
+	for _, c := range samples() {
 		b := frame.Write(c.f)
-		if got, want := hex.EncodeToString(b[:]), strings.ReplaceAll(c.want, " ", ""); got != want {
+		if got, want := hex.EncodeToString(b[:]), strings.ReplaceAll(c.bytes, " ", ""); got != want {
 			t.Errorf("%+v: %s, want %s", c.f, got, want)
+		}
+	}
+}
+
+func TestRead(t *testing.T) {
+	for _, c := range samples() {
+		l, err := hex.DecodeString(strings.ReplaceAll(c.bytes, " ", ""))
+		if err != nil {
+			t.Fatal(err)
+		}
+		if got := frame.Read(frame.Bytes(l)); got != c.f {
+			t.Errorf("%s: %+v, want %+v", c.bytes, got, c.f)
 		}
 	}
 }

@@ -21,6 +21,17 @@ func (l *Link[T]) Put(thing T) bool {
 	}
 }
 
+// Take takes away what stands at the head of the link; false: the link is empty.
+func (l *Link[T]) Take() (T, bool) {
+	select {
+	case thing := <-l.things:
+		return thing, true
+	default:
+		var none T
+		return none, false
+	}
+}
+
 // Head tells what stands at the head of the link, which stays as it is; false: it is empty.
 func (l *Link[T]) Head() (T, bool) {
 	var head T
@@ -35,6 +46,9 @@ func (l *Link[T]) Head() (T, bool) {
 	}
 	return head, waiting > 0
 }
+
+// Full tells whether there is no room left.
+func (l *Link[T]) Full() bool { return len(l.things) == cap(l.things) }
 
 // Waiting tells how many things stand in the link.
 func (l *Link[T]) Waiting() int { return len(l.things) }

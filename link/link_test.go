@@ -38,6 +38,35 @@ func TestHeadStays(t *testing.T) {
 	}
 }
 
+func TestTake(t *testing.T) {
+	l := link.New[string](2)
+	for range 3 {
+		if v, ok := l.Take(); ok || v != "" {
+			t.Errorf("an empty link gave %q", v)
+		}
+		l.Put("a")
+		l.Put("b")
+		for i, want := range []string{"a", "b"} {
+			if v, ok := l.Take(); !ok || v != want || l.Waiting() != 1-i {
+				t.Errorf("taken: %q, %d left, want %q", v, l.Waiting(), want)
+			}
+		}
+	}
+}
+
+func TestFull(t *testing.T) {
+	l := link.New[int](2)
+	for _, want := range []bool{false, false, true} {
+		if l.Full() != want {
+			t.Errorf("with %d of 2 it is full: %v", l.Waiting(), l.Full())
+		}
+		l.Put(1)
+	}
+	if l.Take(); l.Full() {
+		t.Errorf("it is full though one was taken")
+	}
+}
+
 func TestNoRoom(t *testing.T) {
 	for _, room := range []int{0, -1} {
 		if l := link.New[int](room); !l.Put(1) || l.Put(2) {

@@ -28,6 +28,8 @@ type Edit interface {
 	// Apply makes another row and leaves the given one as it is: whoever holds the old row may go on reading it.
 	// An index that is none of the row makes no change: it is for the caller to refuse it.
 	Apply(row []Elem) []Elem
+	// Past turns the change past another change of the same text: it gives what this one becomes for the text that the other has made.
+	Past(b Edit) Edit
 	Told() Change
 }
 
@@ -63,6 +65,41 @@ func (x Delete) Apply(row []Elem) []Elem {
 
 func (x Nothing) Apply(row []Elem) []Elem { return row }
 
+// Past: where two insert at one index, the clients' numbers say whose element comes first, so that both sides say the same.
+func (x Insert) Past(b Edit) Edit {
+	switch b := b.(type) {
+	case Insert:
+		if b.At < x.At || b.At == x.At && b.E.Client <= x.E.Client {
+			x.At++
+		}
+	case Delete:
+		if b.At < x.At {
+			x.At--
+		}
+	}
+	return x
+}
+
+// Past: what two delete is deleted once: the other change has done it.
+func (x Delete) Past(b Edit) Edit {
+	switch b := b.(type) {
+	case Insert:
+		if b.At <= x.At {
+			x.At++
+		}
+	case Delete:
+		if b.At == x.At {
+			return Nothing{By: x.By}
+		}
+		if b.At < x.At {
+			x.At--
+		}
+	}
+	return x
+}
+
+func (x Nothing) Past(Edit) Edit { return x }
+
 func (x Insert) Told() Change {
 	return Change{Kind: KindInsert, At: x.At, E: x.E, Client: x.E.Client}
 }
@@ -73,6 +110,17 @@ func (x Delete) Told() Change {
 
 func (x Nothing) Told() Change {
 	return Change{Kind: KindNothing, Client: x.By}
+}
+
+// Of gives a told change as it is worked with; of a kind that is none it is nothing.
+func Of(c Change) Edit {
+	switch c.Kind {
+	case KindInsert:
+		return Insert{At: c.At, E: c.E}
+	case KindDelete:
+		return Delete{At: c.At, By: c.Client}
+	}
+	return Nothing{By: c.Client}
 }
 
 // TurnIndex turns an index past a change of the text that it is an index of.

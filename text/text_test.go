@@ -72,6 +72,80 @@ func TestTold(t *testing.T) {
 	}
 }
 
+func TestOf(t *testing.T) {
+	for _, x := range []text.Edit{text.Insert{At: 4, E: elem('x')}, text.Delete{At: 4, By: 2}, text.Nothing{By: 3}} {
+		if got := text.Of(x.Told()); got != x {
+			t.Errorf("%#v came back as %#v", x, got)
+		}
+	}
+	for _, kind := range []int{0, 4, -1} {
+		if got := text.Of(text.Change{Kind: kind, At: 1, Client: 2}); got != (text.Nothing{By: 2}) {
+			t.Errorf("of kind %d: %#v", kind, got)
+		}
+	}
+}
+
+// The document's rules of turning, each on both sides of its edge.
+func TestPast(t *testing.T) {
+	insert := func(at, client int) text.Edit {
+		return text.Insert{At: at, E: text.Elem{R: 'x', Client: client, Number: 1}}
+	}
+	remove := func(at, client int) text.Edit { return text.Delete{At: at, By: client} }
+	for _, c := range []struct{ a, b, want text.Edit }{
+		{insert(3, 1), insert(4, 0), insert(3, 1)},
+		{insert(3, 1), insert(3, 0), insert(4, 1)},
+		{insert(3, 1), insert(3, 1), insert(4, 1)},
+		{insert(3, 1), insert(3, 2), insert(3, 1)},
+		{insert(3, 1), insert(2, 2), insert(4, 1)},
+		{insert(3, 1), remove(4, 0), insert(3, 1)},
+		{insert(3, 1), remove(3, 0), insert(3, 1)},
+		{insert(3, 1), remove(2, 2), insert(2, 1)},
+		{remove(3, 1), insert(4, 0), remove(3, 1)},
+		{remove(3, 1), insert(3, 2), remove(4, 1)},
+		{remove(3, 1), insert(2, 2), remove(4, 1)},
+		{remove(3, 1), remove(4, 0), remove(3, 1)},
+		{remove(3, 1), remove(3, 0), text.Nothing{By: 1}},
+		{remove(3, 1), remove(3, 2), text.Nothing{By: 1}},
+		{remove(3, 1), remove(2, 2), remove(2, 1)},
+		{insert(3, 1), text.Nothing{By: 0}, insert(3, 1)},
+		{remove(3, 1), text.Nothing{By: 0}, remove(3, 1)},
+		{text.Nothing{By: 1}, insert(0, 0), text.Nothing{By: 1}},
+		{text.Nothing{By: 1}, remove(0, 0), text.Nothing{By: 1}},
+		{text.Nothing{By: 1}, text.Nothing{By: 0}, text.Nothing{By: 1}},
+	} {
+		if got := c.a.Past(c.b); got != c.want {
+			t.Errorf("%#v past %#v is %#v, want %#v", c.a, c.b, got, c.want)
+		}
+	}
+}
+
+// edits gives every change that a client can make of a row.
+func edits(row []text.Elem, client int) []text.Edit {
+	l := []text.Edit{text.Nothing{By: client}}
+	for i := range len(row) + 1 {
+		l = append(l, text.Insert{At: i, E: text.Elem{R: 'x', Client: client, Number: 9}})
+	}
+	for i := range row {
+		l = append(l, text.Delete{At: i, By: client})
+	}
+	return l
+}
+
+// Whichever of two changes comes first, the other one turned past it makes the same text.
+func TestBothWays(t *testing.T) {
+	for _, runes := range []string{"", "a", "ab", "abcd"} {
+		from := row(runes)
+		for _, a := range edits(from, 2) {
+			for _, b := range append(edits(from, 1), edits(from, 3)...) {
+				one, two := b.Past(a).Apply(a.Apply(from)), a.Past(b).Apply(b.Apply(from))
+				if !slices.Equal(one, two) {
+					t.Errorf("%q: %#v and %#v: %v, %v", runes, a, b, one, two)
+				}
+			}
+		}
+	}
+}
+
 func TestTurnIndex(t *testing.T) {
 	for _, c := range []struct {
 		k    int
