@@ -3,6 +3,7 @@ package coedit
 import (
 	"unicode/utf8"
 
+	"coedit/frame"
 	"coedit/text"
 )
 
@@ -26,18 +27,12 @@ func (w *client) draftInsert(at int, r rune) (draft, error) {
 	if !utf8.ValidRune(r) {
 		return draft{}, ErrRune
 	}
-	if at < 0 || at > len(w.elems) {
-		return draft{}, ErrRange
-	}
 	e := text.Elem{R: r, Client: w.number, Number: w.inserts + 1}
-	return w.draftEdit(text.Insert{At: at, E: e}), nil
+	return w.draftEdit(text.Insert{At: at, E: e})
 }
 
 func (w *client) draftDelete(at int) (draft, error) {
-	if at < 0 || at >= len(w.elems) {
-		return draft{}, ErrRange
-	}
-	return w.draftEdit(text.Delete{At: at, By: w.number}), nil
+	return w.draftEdit(text.Delete{At: at, By: w.number})
 }
 
 func (w *client) draftMove(at int) (draft, error) {
@@ -47,8 +42,11 @@ func (w *client) draftMove(at int) (draft, error) {
 	return draft{edit: text.Nothing{By: w.number}, cursor: at}, nil
 }
 
-func (w *client) draftEdit(x text.Edit) draft {
-	return draft{edit: x, cursor: text.TurnIndex(w.cursor, x)}
+func (w *client) draftEdit(x text.Edit) (draft, error) {
+	if !x.Fits(len(w.elems)) {
+		return draft{}, ErrRange
+	}
+	return draft{edit: x, cursor: text.TurnIndex(w.cursor, x)}, nil
 }
 
 // write sends a draft and makes its change; false: the link up is full, and nothing has changed.
@@ -72,5 +70,16 @@ func (w *client) receive() error {
 	}
 	w.elems = x.Apply(w.elems)
 	w.cursor = text.TurnIndex(w.cursor, x)
+	return nil
+}
+
+// check tells what would be wrong with a frame that came down; nothing is done.
+func (w *client) check(f frame.Frame) error {
+	if err := w.fault(f, w.elems); err != nil {
+		return err
+	}
+	if f.Change.Kind == text.KindInsert && f.Change.E.Number == 0 {
+		return ErrRange
+	}
 	return nil
 }

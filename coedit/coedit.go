@@ -77,11 +77,20 @@ func (s *Session) Deliver(c int, up bool) error {
 	return named("Deliver", c, err)
 }
 
-// Check: P6 is not built yet: the bytes are not looked at.
+// Check: P6.
 func (s *Session) Check(c int, up bool, frame []byte) error {
 	s = s.enter()
 	defer s.mu.Unlock()
-	_, err := s.find(c)
+	w, err := s.find(c)
+	if err != nil {
+		return named("Check", c, err)
+	}
+	f, err := s.read(c, up, frame)
+	if err == nil && up {
+		s.server.do(func() { err = s.server.check(c, f) })
+	} else if err == nil {
+		w.do(func() { err = w.check(f) })
+	}
 	return named("Check", c, err)
 }
 

@@ -15,7 +15,7 @@ var (
 	ErrEmpty   = errors.New("a link is empty")
 	ErrFrame   = errors.New("no frame")
 	ErrOrder   = errors.New("a frame out of order")
-	ErrAck     = errors.New("a frame that tells of what was not sent")
+	ErrAck     = errors.New("a frame that tells wrongly what was taken")
 	ErrStopped = errors.New("the session has been stopped")
 )
 

@@ -14,7 +14,7 @@ type model struct {
 	room, calls    int
 	texts          [][]coedit.Elem // of the clients; behind them the server's
 	cursors, table []int
-	inserts        []int
+	inserts, came  []int // of each client: how many it has made, how many the server has taken
 	up, down       [][]modelFrame
 	below, above   []modelEnd // the clients' ends, and the server's
 	log            []coedit.Change
@@ -27,12 +27,13 @@ type modelFrame struct {
 
 type modelEnd struct {
 	mine, other int
+	told        int          // the greatest other that was taken
 	row         []modelFrame // what was sent, its change as turned since
 }
 
 func newModel(clients, room int) *model {
 	return &model{
-		room: room, texts: make([][]coedit.Elem, clients+1), cursors: make([]int, clients), table: make([]int, clients), inserts: make([]int, clients),
+		room: room, texts: make([][]coedit.Elem, clients+1), cursors: make([]int, clients), table: make([]int, clients), inserts: make([]int, clients), came: make([]int, clients),
 		up: make([][]modelFrame, clients), down: make([][]modelFrame, clients), below: make([]modelEnd, clients), above: make([]modelEnd, clients),
 	}
 }
@@ -98,7 +99,68 @@ func (e *modelEnd) take(link *[]modelFrame) (coedit.Change, int) {
 		f.cursor = modelIndex(f.cursor, e.row[i].x)
 	}
 	e.other++
+	e.told = max(e.told, f.other)
 	return f.x, f.cursor
+}
+
+// check is plain.Check of a client that there is.
+func (m *model) check(c int, up bool, b string) int {
+	f, ok := modelRead(b)
+	if !ok || f.x.Client >= len(m.cursors) || up && f.x.Client != c || !up && f.x.Client == c {
+		return codeFrame
+	}
+	e, length := m.below[c], len(m.texts[c])
+	if up {
+		e, length = m.above[c], len(m.texts[len(m.texts)-1])
+	}
+	if f.mine != e.other {
+		return codeOrder
+	}
+	if f.other > e.mine || f.other < e.told {
+		return codeAck
+	}
+	if f.x.Kind == 1 && (f.x.E.Number == 0 || up && f.x.E.Number != m.came[c]+1) {
+		return codeRange
+	}
+	e.row = slices.Clone(e.row)
+	x, cursor := e.take(&[]modelFrame{f})
+	switch {
+	case x.Kind == 1 && x.At > length, x.Kind == 2 && x.At >= length:
+		return codeRange
+	case x.Kind == 1:
+		length++
+	case x.Kind == 2:
+		length--
+	}
+	if cursor > length {
+		return codeRange
+	}
+	return 0
+}
+
+// modelRead reads a frame; false: it is none.
+func modelRead(b string) (modelFrame, bool) {
+	if len(b) != 17 {
+		return modelFrame{}, false
+	}
+	all := byte(0)
+	for i := range len(b) {
+		all ^= b[i]
+	}
+	two := func(i int) int { return int(b[i])*256 + int(b[i+1]) }
+	number, at, r := two(3), two(9), int(b[11])*65536+two(12)
+	f := modelFrame{coedit.Change{Kind: int(b[1]), At: at, Client: int(b[2])}, two(5), two(7), two(14)}
+	right := all == 0 && b[0] == 0x4a
+	switch b[1] {
+	case 1:
+		f.x.E = coedit.Elem{R: rune(r), Client: int(b[2]), Number: number}
+		return f, right && (r < 0xd800 || r > 0xdfff && r < 0x110000)
+	case 2:
+		return f, right && number == 0 && r == 0
+	case 3:
+		return f, right && number == 0 && r == 0 && at == 0
+	}
+	return f, false
 }
 
 // The numbers by which package plain tells errors.
@@ -109,6 +171,9 @@ const (
 	codeFull   = 5
 	codeMany   = 6
 	codeEmpty  = 7
+	codeFrame  = 8
+	codeOrder  = 9
+	codeAck    = 10
 )
 
 // do is plain.Do.
@@ -166,6 +231,9 @@ func (m *model) deliverUp(c int) int {
 	}
 	x, cursor := m.above[c].take(&m.up[c])
 	m.apply(len(m.texts)-1, x)
+	if x.Kind == 1 {
+		m.came[c]++
+	}
 	m.log = append(m.log, x)
 	for k := range m.table {
 		m.table[k] = modelIndex(m.table[k], x)
@@ -242,6 +310,12 @@ func (m *model) look() seen {
 	}
 	v.log = m.log
 	return v
+}
+
+// bytesOf is a frame as it would stand in a link.
+func bytesOf(f modelFrame) string {
+	b, _ := hex.DecodeString(modelHead([]modelFrame{f}))
+	return string(b)
 }
 
 // dice throws the same row of numbers every time.

@@ -130,20 +130,6 @@ func TestErrors(t *testing.T) {
 	}
 }
 
-// What is to come of Check, its first errors stand already.
-func TestCheckNamesItsFaults(t *testing.T) {
-	s := begin(t, 2, 1)
-	for _, up := range []bool{true, false} {
-		for _, c := range []int{-1, 2, 1 << 40} {
-			wrong(t, s.Check(c, up, nil), coedit.ErrClient, "Check", c)
-		}
-	}
-	s.Stop()
-	for _, c := range []int{-1, 0} {
-		wrong(t, s.Check(c, true, nil), coedit.ErrStopped, "Check", c)
-	}
-}
-
 // P9
 
 // running counts the goroutines that the program began and that have not ended.

@@ -1,6 +1,9 @@
 package coedit
 
-import "coedit/text"
+import (
+	"coedit/frame"
+	"coedit/text"
+)
 
 // server is the one by which all changes go: a goroutine with a text of its own.
 type server struct {
@@ -56,4 +59,26 @@ func (v *server) pass(c int, x text.Edit) {
 			end.send(x, v.cursors[c])
 		}
 	}
+}
+
+// check tells what would be wrong with a frame that came up from client c; nothing is done.
+func (v *server) check(c int, f frame.Frame) error {
+	if err := v.ends[c].fault(f, v.elems); err != nil {
+		return err
+	}
+	if f.Change.Kind == text.KindInsert && f.Change.E.Number != v.inserts(c)+1 {
+		return ErrRange
+	}
+	return nil
+}
+
+// inserts counts the inserts of client c that have been taken. All of them stand in the log: no turning makes nothing of an insert.
+func (v *server) inserts(c int) int {
+	n := 0
+	for _, x := range v.log {
+		if i, ok := x.(text.Insert); ok && i.E.Client == c {
+			n++
+		}
+	}
+	return n
 }

@@ -1,6 +1,9 @@
 package coedit
 
-import "coedit/text"
+import (
+	"coedit/frame"
+	"coedit/text"
+)
 
 // enter begins a call: it locks the session that it answers. A nil session is taken for one without clients, so that no call on it panics.
 func (s *Session) enter() *Session {
@@ -55,6 +58,17 @@ func (s *Session) writeBy(w *client, ask func(*client) (draft, error)) error {
 	}
 	s.changes++
 	return nil
+}
+
+// read reads bytes as a frame that comes up from client c, or down to it.
+func (s *Session) read(c int, up bool, raw []byte) (frame.Frame, error) {
+	f, ok := frame.ReadAny(raw)
+	of := f.Change.Client
+	// Up go a client's own changes alone, down those of all others.
+	if !ok || of >= len(s.clients) || (of == c) != up {
+		return frame.Frame{}, ErrFrame
+	}
+	return f, nil
 }
 
 // elems gives a text as it is now. It stays as it is: a change makes another row.

@@ -51,10 +51,27 @@ func (e *side) take() (text.Edit, int, error) {
 	return x, cursor, nil
 }
 
+// fault tells what would be wrong with a frame, if this end took it for such a text; nothing is done.
+func (e *side) fault(f frame.Frame, elems []text.Elem) error {
+	if f.Mine != e.other {
+		return ErrOrder
+	}
+	if f.Other > e.mine || f.Other < e.known() {
+		return ErrAck
+	}
+	x, cursor, _ := meet(f, e.unknown(f.Other))
+	if !x.Fits(len(elems)) || cursor > len(x.Apply(elems)) {
+		return ErrRange
+	}
+	return nil
+}
+
+// known gives how many frames the other end has taken, as far as this one knows: the row's changes are the last that were sent.
+func (e *side) known() int { return e.mine - len(e.row) }
+
 // unknown gives what is left of the row, if the other end has taken so many frames.
 func (e *side) unknown(taken int) []text.Edit {
-	known := taken - (e.mine - len(e.row)) // the row's changes are the last that were sent
-	return e.row[min(max(known, 0), len(e.row)):]
+	return e.row[min(max(taken-e.known(), 0), len(e.row)):]
 }
 
 // meet turns what comes in and a row past each other: the change, the frame's cursor and the row as they are then. The given row stays as it is.

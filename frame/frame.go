@@ -1,7 +1,11 @@
 // Package frame: the bytes in which a change goes over a link.
 package frame
 
-import "coedit/text"
+import (
+	"unicode/utf8"
+
+	"coedit/text"
+)
 
 // Size is how many bytes a frame has.
 const Size = 17
@@ -43,6 +47,24 @@ func Read(b Bytes) Frame {
 		f.Change.At = number(b[9:11])
 	}
 	return f
+}
+
+// ReadAny tells what bytes from anywhere tell; false: they are no frame. Whose change it may be is for the caller to say.
+func ReadAny(raw []byte) (Frame, bool) {
+	if len(raw) != Size {
+		return Frame{}, false
+	}
+	var b Bytes
+	copy(b[:], raw)
+	f := Read(b)
+	if f.Change.Kind < text.KindInsert || f.Change.Kind > text.KindNothing || !utf8.ValidRune(f.Change.E.R) {
+		return Frame{}, false
+	}
+	// Read leaves out what a change of that kind does not have, the mark and the sum: the bytes are a frame's if Write would write just these.
+	if Write(f) != b {
+		return Frame{}, false
+	}
+	return f, true
 }
 
 // number reads a number, its high byte first.

@@ -29,6 +29,15 @@ func samples() []sample {
 	}
 }
 
+func unhex(t *testing.T, told string) []byte {
+	t.Helper()
+	l, err := hex.DecodeString(strings.ReplaceAll(told, " ", ""))
+	if err != nil {
+		t.Fatal(err)
+	}
+	return l
+}
+
 func TestWrite(t *testing.T) {
 	for _, c := range samples() {
 		b := frame.Write(c.f)
@@ -40,12 +49,63 @@ func TestWrite(t *testing.T) {
 
 func TestRead(t *testing.T) {
 	for _, c := range samples() {
-		l, err := hex.DecodeString(strings.ReplaceAll(c.bytes, " ", ""))
-		if err != nil {
-			t.Fatal(err)
-		}
+		l := unhex(t, c.bytes)
 		if got := frame.Read(frame.Bytes(l)); got != c.f {
 			t.Errorf("%s: %+v, want %+v", c.bytes, got, c.f)
+		}
+		if got, ok := frame.ReadAny(l); got != c.f || !ok {
+			t.Errorf("%s from anywhere: %+v, %v, want %+v", c.bytes, got, ok, c.f)
+		}
+	}
+}
+
+// summed is the bytes that are told, and behind them their exclusive or.
+func summed(t *testing.T, told string) []byte {
+	t.Helper()
+	l := unhex(t, told)
+	all := byte(0)
+	for _, x := range l {
+		all ^= x
+	}
+	return append(l, all)
+}
+
+// P6: what is a frame and what is none, whatever session it came to.
+func TestReadAny(t *testing.T) {
+	for told, want := range map[string]bool{
+		"4a03 00 0000 0000 0000 0000 000000 0000":    true,
+		"4a03 00 0000 0000 0000 0000 000000 00":      false, // 16 bytes with the sum
+		"4a03 00 0000 0000 0000 0000 000000 0000 00": false, // 18
+		"4b03 00 0000 0000 0000 0000 000000 0000":    false, // the mark
+		"4a00 00 0000 0000 0000 0000 000000 0000":    false, // the kind
+		"4a04 00 0000 0000 0000 0000 000000 0000":    false,
+		"4a03 00 0001 0000 0000 0000 000000 0000":    false, // numbers that must be 0
+		"4a03 00 0000 0000 0000 0001 000000 0000":    false,
+		"4a03 00 0000 0000 0000 0000 000001 0000":    false,
+		"4a02 00 0000 0000 0000 0001 000000 0000":    true,
+		"4a02 00 0001 0000 0000 0001 000000 0000":    false,
+		"4a02 00 0000 0000 0000 0001 000001 0000":    false,
+		"4a01 00 0000 0000 0000 0000 000000 0000":    true, // runes
+		"4a01 00 0001 0000 0000 0000 00d7ff 0001":    true,
+		"4a01 00 0001 0000 0000 0000 00d800 0001":    false,
+		"4a01 00 0001 0000 0000 0000 00dfff 0001":    false,
+		"4a01 00 0001 0000 0000 0000 00e000 0001":    true,
+		"4a01 00 0001 0000 0000 0000 10ffff 0001":    true,
+		"4a01 00 0001 0000 0000 0000 110000 0001":    false,
+		"4a01 00 0001 0000 0000 0000 ffffff 0001":    false,
+	} {
+		b := summed(t, told)
+		if f, ok := frame.ReadAny(b); ok != want || !ok && f != (frame.Frame{}) {
+			t.Errorf("%s: %+v, %v", told, f, ok)
+		}
+		b[len(b)-1] ^= 0x10
+		if f, ok := frame.ReadAny(b); ok || f != (frame.Frame{}) {
+			t.Errorf("%s with a wrong sum: %+v, %v", told, f, ok)
+		}
+	}
+	for _, b := range [][]byte{nil, {}, {0x4a}} {
+		if f, ok := frame.ReadAny(b); ok || f != (frame.Frame{}) {
+			t.Errorf("%x: %+v, %v", b, f, ok)
 		}
 	}
 }

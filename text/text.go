@@ -26,8 +26,10 @@ type Change struct {
 // Edit is a change as it is worked with: an Insert, a Delete or a Nothing.
 type Edit interface {
 	// Apply makes another row and leaves the given one as it is: whoever holds the old row may go on reading it.
-	// An index that is none of the row makes no change: it is for the caller to refuse it.
+	// A change that does not fit the row makes none: it is for the caller to refuse it.
 	Apply(row []Elem) []Elem
+	// Fits tells whether the change's index is one of a text of that length.
+	Fits(length int) bool
 	// Past turns the change past another change of the same text: it gives what this one becomes for the text that the other has made.
 	Past(b Edit) Edit
 	Told() Change
@@ -50,20 +52,27 @@ type Nothing struct {
 }
 
 func (x Insert) Apply(row []Elem) []Elem {
-	if x.At < 0 || x.At > len(row) {
+	if !x.Fits(len(row)) {
 		return row
 	}
 	return slices.Concat(row[:x.At], []Elem{x.E}, row[x.At:])
 }
 
 func (x Delete) Apply(row []Elem) []Elem {
-	if x.At < 0 || x.At >= len(row) {
+	if !x.Fits(len(row)) {
 		return row
 	}
 	return slices.Concat(row[:x.At], row[x.At+1:])
 }
 
 func (x Nothing) Apply(row []Elem) []Elem { return row }
+
+// Fits: a text's end is a place to insert at.
+func (x Insert) Fits(length int) bool { return x.At >= 0 && x.At <= length }
+
+func (x Delete) Fits(length int) bool { return x.At >= 0 && x.At < length }
+
+func (x Nothing) Fits(int) bool { return true }
 
 // Past: where two insert at one index, the clients' numbers say whose element comes first, so that both sides say the same.
 func (x Insert) Past(b Edit) Edit {

@@ -47,6 +47,23 @@ func TestApply(t *testing.T) {
 	}
 }
 
+func TestFits(t *testing.T) {
+	const most = int(^uint(0) >> 1)
+	for _, at := range []int{-most - 1, -1, 0, 1, 2, 3, 4, most} {
+		for length := range 4 {
+			if got, want := (text.Insert{At: at}).Fits(length), 0 <= at && at <= length; got != want {
+				t.Errorf("an insert at %d fits a text of %d: %v", at, length, got)
+			}
+			if got, want := (text.Delete{At: at}).Fits(length), 0 <= at && at < length; got != want {
+				t.Errorf("a delete at %d fits a text of %d: %v", at, length, got)
+			}
+			if !(text.Nothing{}).Fits(length) {
+				t.Errorf("nothing does not fit a text of %d", length)
+			}
+		}
+	}
+}
+
 // A row with room behind its end must not be written into: another change of the same row would show through.
 func TestApplyTwiceToOneRow(t *testing.T) {
 	from := slices.Grow(row("ab"), 10)
